@@ -1,0 +1,1 @@
+"""Jumpsay: and, or, not as jumps."""
