@@ -53,9 +53,22 @@ def is_number_up_to(value, most):
     return 0 <= value <= most
 
 
+def are_numbers_up_to(values, many, most):
+    """Whether these are so many numbers, each of them from 0 to `most`."""
+    return len(values) == many and all([is_number_up_to(value, most) for value in values])
+
+
 def are_bits(values, many):
     """Whether these are so many numbers, each of them 0 or 1."""
-    return len(values) == many and all([is_number_up_to(value, 1) for value in values])
+    return are_numbers_up_to(values, many, 1)
+
+
+def all_bits(many):
+    """All tuples of so many numbers 0 or 1, as tuples ascend."""
+    told = [()]
+    for _ in range(many):
+        told = [bits + (bit,) for bits in told for bit in (0, 1)]
+    return told
 
 
 def count_pairs(condition):

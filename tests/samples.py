@@ -1,10 +1,42 @@
-"""Conditions, worths and tuples that are neither, for the tests."""
+"""Conditions, worths, chances, what is none of these, and small helpers, for the tests."""
 
+import re
 from itertools import product
+
+from jumpsay.errors import JumpError
 
 ALL_WORTHS = list(product((0, 1), repeat=8))
 A, B, C, D, E, F, G, H = [("look", thing) for thing in range(8)]
 HUGE = 10 ** 40 - 1
+
+
+def refusal(call, *handed):
+    """The very class of a refusal and its place, None where it has none; None if nothing is refused."""
+    try:
+        call(*handed)
+    except JumpError as error:
+        return type(error), getattr(error, "place", None)
+    return None
+
+
+def pairs_in(condition):
+    """How many ands and ors are written in a condition."""
+    return len(re.findall("'(?:and|or)'", repr(condition)))
+
+
+def things_in(condition):
+    """The things of all looks of a condition, as they are written."""
+    return [int(thing) for thing in re.findall(r"'look', (\d)", repr(condition))]
+
+
+def as_python(condition):
+    """The condition in Python's own words, which do their second sides as point 3 says."""
+    word = condition[0]
+    if word == "look":
+        return f"look({condition[1]})"
+    if word == "not":
+        return f"(not {as_python(condition[1])})"
+    return f"({as_python(condition[1])} {word} {as_python(condition[2])})"
 
 
 def nots(condition, many):
@@ -192,3 +224,57 @@ BAD_WORTHS = [
     (-HUGE, 1, 1, 1, 1, 1, 1, 1),
     (0, 1, 2, 3, 4, 5, 6, 7),
 ]
+
+CHANCES = [
+    (50,) * 8,
+    (0,) * 8,
+    (100,) * 8,
+    (0, 100, 0, 100, 0, 100, 0, 100),
+    (1, 2, 30, 40, 50, 60, 7, 8),
+    (99, 98, 70, 60, 50, 40, 93, 92),
+    (100, 13, 50, 0, 87, 87, 50, 1),
+    (10, 20, 30, 40, 60, 70, 80, 90),
+]
+
+BAD_CHANCES = [
+    (),
+    (50,),
+    (50,) * 7,
+    (50,) * 9,
+    (0,) * 7,
+    (100,) * 9,
+    (50,) * 16,
+    (-1,) + (0,) * 7,
+    (0,) * 7 + (-1,),
+    (101,) + (100,) * 7,
+    (100,) * 7 + (101,),
+    (50, 50, 50, -1, 50, 50, 50, 50),
+    (50, 50, 50, 50, 101, 50, 50, 50),
+    (HUGE,) * 8,
+    (0, -HUGE, 0, 0, 0, 0, 0, 0),
+]
+
+# Conditions of at most six pairs, with things that are looked at several times among them.
+FEW_PAIRS = [
+    A,
+    H,
+    ("not", C),
+    ("and", A, B),
+    ("or", G, F),
+    ("or", A, A),
+    ("and", A, ("not", A)),
+    ("not", ("or", ("not", D), H)),
+    ("and", ("not", ("or", C, A)), C),
+    ("or", ("and", A, B), ("and", A, ("not", B))),
+    ("and", ("not", ("or", ("and", A, B), ("not", ("or", C, D)))), ("or", E, ("and", F, G))),
+    ("or", ("not", ("and", A, ("or", B, ("and", C, D)))), ("not", ("and", ("or", B, C), D))),
+    ("and", nots(A, 9), nots(B, 9)),
+    within(A, 7),
+    balanced(5),
+    balanced(6),
+    balanced(7),
+    chain("and", 7),
+    chain("or", 7),
+]
+
+MORE_PAIRS = [balanced(8), balanced(12), chain("and", 8), chain("or", 9), ("not", balanced(8)), nots(balanced(11), 6)]

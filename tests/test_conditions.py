@@ -9,13 +9,9 @@ import unittest
 from jumpsay.conditions import turned
 from jumpsay.errors import BadCondition, BadTurns
 from tests.samples import (
-    A, B, C, D, E, F, G, H, GOOD_CONDITIONS, HUGE, balanced, bad_conditions, chain, nots, small_conditions, within,
+    A, B, C, D, E, F, G, H, GOOD_CONDITIONS, HUGE, balanced, bad_conditions, chain, nots, pairs_in, small_conditions,
+    within,
 )
-
-
-def pairs_in(condition):
-    """How many ands and ors are written in a condition."""
-    return len(re.findall("'(?:and|or)'", repr(condition)))
 
 
 def tagged(condition):

@@ -7,18 +7,9 @@ from jumpsay.conditions import turned
 from jumpsay.errors import BadCondition, BadWorths
 from jumpsay.meanings import meant
 from tests.samples import (
-    A, ALL_WORTHS, B, BAD_WORTHS, C, D, GOOD_CONDITIONS, H, bad_conditions, balanced, nots, small_conditions,
+    A, ALL_WORTHS, B, BAD_WORTHS, C, D, GOOD_CONDITIONS, H, as_python, bad_conditions, balanced, nots,
+    small_conditions,
 )
-
-
-def as_python(condition):
-    """The condition in Python's own words, which do their second sides as point 3 says."""
-    word = condition[0]
-    if word == "look":
-        return f"look({condition[1]})"
-    if word == "not":
-        return f"(not {as_python(condition[1])})"
-    return f"({as_python(condition[1])} {word} {as_python(condition[2])})"
 
 
 def expected_of(condition):

@@ -34,6 +34,16 @@ class Samples(unittest.TestCase):
         self.assertEqual(max(looks_in(condition) for condition in samples.GOOD_CONDITIONS), 12)
         self.assertEqual(max(depth(condition) for condition in samples.GOOD_CONDITIONS), 10)
 
+    def test_pairs(self):
+        self.assertEqual({samples.pairs_in(condition) for condition in samples.FEW_PAIRS}, {0, 1, 2, 3, 4, 5, 6})
+        self.assertEqual(min(samples.pairs_in(condition) for condition in samples.MORE_PAIRS), 7)
+        for condition in samples.FEW_PAIRS + samples.MORE_PAIRS:
+            self.assertLessEqual(depth(condition), 10)
+            self.assertLessEqual(looks_in(condition), 12)
+
+    def test_things(self):
+        self.assertEqual(samples.things_in(("or", samples.H, ("not", ("and", samples.C, samples.H)))), [7, 2, 7])
+
 
 if __name__ == "__main__":
     unittest.main()
