@@ -60,11 +60,9 @@ def check_code(rows):
     """Refuses what is no code."""
     if len(rows) < 2:
         raise BadCode(0)
-    # However its rows are, a list with more of them goes wrong with the first one too many.
-    if len(rows) > MOST_ROWS:
-        raise BadCode(MOST_ROWS)
     for place in range(len(rows)):
-        if not can_be(rows, place):
+        # The first row too many can't be, however it is; but one ahead of it that can't be counts first.
+        if place == MOST_ROWS or not can_be(rows, place):
             raise BadCode(place)
 
 

@@ -68,7 +68,7 @@ def bad_looks(place, last):
     told += [("look", thing, 1, last) for thing in (-1, 8, 9, HUGE, -HUGE, "a", "0", "")]
     told += [("look", 3, when, last) for when in (2, -1, HUGE, -HUGE, "1", "")]
     told += [("look", 3, 1, to) for to in range(-2, place + 1)]
-    told += [("look", 3, 0, to) for to in (last + 1, last + 2, 40, 41, HUGE, -HUGE, "1", "end", "")]
+    told += [("look", 3, 0, to) for to in (last + 1, last + 2, last + 40, HUGE, -HUGE, "1", "end", "")]
     return told + [(3, 1, last, "look"), ("look", 3, last, 1) if last > 1 else ()]
 
 
@@ -111,11 +111,55 @@ class Codes(unittest.TestCase):
         for row in [("end", 0), ("end", 1), ("look", 0, 0, 1), ("look", 0, 0, 0), (), ("look",)]:
             self.check_refused([row], 0)
 
-    def test_more_than_forty_rows(self):
+    def test_more_than_forty_rows_that_could_be(self):
         for many in (41, 42, 43, 80, 200):
-            self.check_refused(straight(many, ENDS[0]), 40)
-            self.check_refused([("end", 1)] * many, 40)
-            self.check_refused([()] * many, 40)
+            for ends in ENDS:
+                self.check_refused(straight(many, ends), 40)
+        # A row that is jumped to need not be one of the first forty.
+        self.check_refused([("look", 0, 1, 40)] * 39 + ENDS[1], 40)
+        self.check_refused([("look", 0, 1, 41)] * 41 + ENDS[1], 40)
+
+    def test_of_more_than_forty_rows_the_first_too_many_can_not_be_however_it_is(self):
+        for many in (41, 42, 43, 80):
+            for row in [("end", 0), ("end", 1)] + bad_ends(many - 1) + bad_looks(40, many - 1):
+                rows = straight(many, ENDS[1])
+                rows[40] = row
+                self.check_refused(rows, 40)
+                rows[41:] = [row] * (many - 41)
+                self.check_refused(rows, 40)
+
+    def test_of_more_than_forty_rows_an_earlier_one_that_can_not_be_counts(self):
+        for many in (41, 42, 43, 80):
+            for place in range(min(40, many - 2)):
+                for row in bad_looks(place, many - 1):
+                    rows = straight(many, ENDS[place % 2])
+                    rows[place] = row
+                    self.check_refused(rows, place)
+            self.check_refused([("end", 1)] * many, 0)
+            self.check_refused([()] * many, 0)
+
+    def test_of_forty_one_rows_the_last_two_are_the_ends(self):
+        for row in bad_ends(40) + [("look", 0, 1, 40)]:
+            rows = straight(41, ENDS[0])
+            rows[39] = row
+            self.check_refused(rows, 39)
+        self.check_refused(straight(41, [("end", 1)] * 2), 40)
+        # In longer lists row 39 is none of the last two, and so no end.
+        for many in (42, 43, 80):
+            for worth in (0, 1):
+                rows = straight(many, ENDS[0])
+                rows[39] = ("end", worth)
+                self.check_refused(rows, 39)
+
+    def test_of_more_than_forty_rows_the_first_of_several_counts(self):
+        self.check_refused([("look", 0, 2, 39)] + [("look", 0, 1, 40)] * 38 + ENDS[1], 0)
+        rows = [("look", 1, 0, 39)] * 34 + [("look", 0, 2, 39)] + [("look", 6, 1, 40)] * 4 + ENDS[1]
+        self.check_refused(rows, 34)
+        self.check_refused([("look", 0, 1, 40)] * 40 + [("end", 0)], 39)
+        for one, other in itertools.combinations((0, 1, 20, 37, 38, 39, 40, 41), 2):
+            rows = straight(44, ENDS[0])
+            rows[one] = rows[other] = ("look", 0, 0, one)
+            self.check_refused(rows, one)
 
     def test_each_row_that_may_not_be_a_look(self):
         for many in (3, 4, 5, 9, 40):
@@ -189,6 +233,7 @@ class Codes(unittest.TestCase):
         for worths in BAD_WORTHS:
             self.assertEqual(refusal(run, [], worths), (BadCode, 0))
             self.assertEqual(refusal(run, straight(41, ENDS[0]), worths), (BadCode, 40))
+            self.assertEqual(refusal(run, [("end", 1)] * 41, worths), (BadCode, 0))
             self.assertEqual(refusal(run, [("end", 1), ("end", 1)], worths), (BadCode, 1))
             self.assertEqual(refusal(run, [("look", 0, 0, 0)] + ENDS[0], worths), (BadCode, 0))
 

@@ -221,7 +221,7 @@ class Refusals(unittest.TestCase):
             self.assertEqual(refusal(call, chain("and", 12), EVEN), (errors.BadCondition, None))
 
     def test_places(self):
-        for rows, place in (([], 0), ([("end", 1)] * 41, 40), ([("end", 1)] * 2, 1)):
+        for rows, place in (([], 0), ([("look", 0, 0, 40)] * 39 + [("end", 1), ("end", 0)], 40), ([("end", 1)] * 2, 1)):
             self.assertEqual(refusal(run, rows, BAD_WORTHS[0]), (errors.BadCode, place))
         for text, place in (("", 0), ("a&", 2), ("a)", 1)):
             self.assertEqual(refusal(read, text), (errors.BadText, place))
